@@ -1,6 +1,6 @@
 """What tells two pasts apart: a future that is taken after one of them and not after the other one."""
 
-from honestrun.futures import futures, unlocks, waiting
+from honestrun.futures import futures, missing, unlocks
 from honestrun.shields import Shield
 
 
@@ -13,14 +13,11 @@ def difference(first, second):
     if form == other:
         return None
     found = _first_split(one, two, futures(form, other) + futures(other, form))
-    if found is not None:
-        return found
-    # What is left is who has been woken. Threads that wait at different conditions are told apart by a signal.
-    return _first_split(one, two, [
-        future
-        for start in ([], [("signal_all", 0, 0)], [("signal_all", 0, 1)])
-        for future in _wakings(_shield_from(one, start), _shield_from(two, start), start)
-    ])
+    if found is None:
+        found = _first_split(one, two, _wakings(one, two, []))
+    if found is None:
+        found = _first_split(one, two, _wakings(one, two, [("signal_all", 0, 0)]))
+    return found
 
 
 def _shield_after(history):
@@ -59,37 +56,37 @@ def _split(one, two, future):
     return None
 
 
-def _wakings(one, two, start):
-    """Futures that begin with some events, after which the shields are these: as many of a group as can go on do."""
-    form = one.form()
-    other = two.form()
-    groups = _groups(form, other) + _groups(other, form)
-    events = start + unlocks(form)
-    return [events + _going_on(shield, unlocks(form), group) for group in groups for shield in (one, two)]
+def _wakings(one, two, signals):
+    """Futures in which, after some signals, as many threads in the end of a line go on as can after one of two pasts.
 
-
-def _groups(form, other):
-    """Groups of waiting threads. If two forms differ, of one group more can go on after one than after the other.
-
-    In the end of a line from a block on, just as many can have been woken as places there count. And of all but
-    one that surely has been woken, one less can have been woken than of all.
+    The same threads wait after both, and the same ones run and hold locks. In the end of a line from a block on, just
+    as many can have been woken as places count there, and these numbers tell which choices of woken threads are
+    possible. So if the choices differ, then of some such end more can go on after one past than after the other. If
+    they do not, but threads that need not have been woken wait at different conditions, they do after a signal to
+    all at one of the conditions.
     """
-    everyone = waiting(form)
-    groups = [everyone]
-    for sure in form[3]:
-        if sure not in other[3]:
-            groups.append([pair for pair in everyone if pair != sure])
-    for blocks in form[4]:
-        for at in range(len(blocks)):
-            groups.append([pair for members, _ in blocks[at:] for pair in members])
-    return groups
+    one = _shield_from(one, signals)
+    two = _shield_from(two, signals)
+    ends = _ends(one.form())
+    other_ends = _ends(two.form())
+    before = signals + unlocks(one.form())
+    return [
+        before + _going_on(shield, end)
+        for end in missing(ends, other_ends) + missing(other_ends, ends)
+        for shield in (one, two)
+    ]
 
 
-def _going_on(shield, before, group):
-    """Events by which as many threads of a group go on as can after some events, and give up their locks."""
-    twin = _shield_from(shield, before)
+def _ends(form):
+    """The ends of the lines: the blocks of each line from some block on."""
+    return [blocks[at:] for blocks in form[4] for at in range(len(blocks))]
+
+
+def _going_on(shield, end):
+    """Events by which as many threads in some blocks go on as can if all locks are free, and give up their locks."""
+    twin = _shield_from(shield, unlocks(shield.form()))
     events = []
-    for thread, lock in group:
+    for thread, lock in [pair for members, _ in end for pair in members]:
         if twin.take(("woken", thread)) is None:
             twin.take(("unlock", thread, lock))
             events += [("woken", thread), ("unlock", thread, lock)]

@@ -1,8 +1,8 @@
 """Futures that can be told apart by a look at two forms.
 
-`futures(form, other)` and `futures(other, form)` together hold a future that is taken up to some event after
-both pasts, and at this event after one of them only, if the forms differ in more than this: who of the waiting
-threads has been woken, and at which condition they wait.
+If two forms differ in more than in who of the same waiting threads has been woken and where these wait, then among
+`futures(form, other)` and `futures(other, form)` is one that is taken up to some event after both pasts, and at this
+event after one of them only.
 """
 
 RESTART = ("restart", None)
@@ -12,33 +12,28 @@ def futures(form, other):
     """Lists of events, each of which may be taken after the past with this form and not after the other one."""
     running, next_thread, holders, _, _, clock, maps, names, pages, _ = form
     found = [[("start", 0, next_thread)], [("clock", 0, clock)]]
-    found += [[("hear", thread, ())] for thread in _missing(running, other[0])]
-    found += [[("unlock", thread, lock)] for lock, thread in _missing(holders, other[2])]
-    for base, size in _missing(maps, other[6]):
+    found += [[("hear", thread, ())] for thread in missing(running, other[0])]
+    found += [[("unlock", thread, lock)] for lock, thread in missing(holders, other[2])]
+    for base, size in missing(maps, other[6]):
         # If both have memory at this base, the cell behind the smaller piece is free in one of them only.
         found += [[("unmap", 0, base)], [("map", 0, 1, base + size)]]
-    for now, later in _missing(names, other[7])[:1]:
+    for now, later in missing(names, other[7])[:1]:
         found.append(_looks(now) + [RESTART] + _looks(later))
-    for entry in _missing(pages, other[8]):
+    for entry in missing(pages, other[8]):
         found += _reads(entry, other[8])
-    # The stamp that is next in the other one was given in this one, if this one has more.
-    found += [[("sync", 0, other[9], done)] for done in (True, False)]
+    # If more stamps were given here, the next one there was given here. If the names do not differ, no name has it.
+    found.append([("sync", 0, other[9], False)])
     return found + _returns(form, other)
 
 
-def waiting(form):
-    """The pairs of thread and lock of all that wait."""
-    return list(form[3]) + [pair for blocks in form[4] for members, _ in blocks for pair in members]
+def missing(members, others):
+    """The members that the others do not have."""
+    return [member for member in members if member not in others]
 
 
 def unlocks(form):
     """Events by which all locks are given up."""
     return [("unlock", thread, lock) for lock, thread in form[2]]
-
-
-def _missing(members, others):
-    """The members that the others do not have."""
-    return [member for member in members if member not in others]
 
 
 def _looks(names):
@@ -52,7 +47,7 @@ def _reads(entry, others):
     other_now, other_may = _entry_at(stamp, number, others)
     texts = may if now is None else (now,)
     found = [[("read", 0, stamp, number, text)] for text in texts if text != other_now][:1]
-    later = [("read", 0, stamp, number, text) for text in _missing(may, other_may)[:1]]
+    later = [("read", 0, stamp, number, text) for text in missing(may, other_may)[:1]]
     return found + [[RESTART, event] for event in later]
 
 
@@ -65,9 +60,14 @@ def _entry_at(stamp, number, entries):
 
 
 def _returns(form, other):
-    """Futures in which a thread that waits goes on and gives up its lock: it waits so after this past alone."""
+    """Futures in which a thread goes on and gives up its lock, for threads that wait like this here alone."""
     start = unlocks(form) + [("signal_all", 0, 0), ("signal_all", 0, 1)]
     return [
         start + [("woken", thread), ("unlock", thread, lock)]
-        for thread, lock in _missing(waiting(form), waiting(other))
+        for thread, lock in missing(_waiting(form), _waiting(other))
     ]
+
+
+def _waiting(form):
+    """The pairs of thread and lock of all that wait."""
+    return list(form[3]) + [pair for blocks in form[4] for members, _ in blocks for pair in members]

@@ -4,6 +4,7 @@ import unittest
 
 from honestrun.differences import difference
 from honestrun.shields import Shield, taken
+from tests.draws import KINDS
 
 NO_CALL = ("no call",)
 TOO_MANY = ("too many",)
@@ -93,6 +94,7 @@ class Checks(unittest.TestCase):
             which, future = found
             self.assertIn(which, (1, 2))
             self.assertIsInstance(future, list)
+            self.assertLessEqual({event[0] for event in future}, set(KINDS["all"]))
             winner, loser = histories if which == 1 else histories[::-1]
             self.assertIsNone(taken(winner + future), (histories, found))
             number, answer = taken(loser + future)

@@ -217,6 +217,16 @@ class Parts(Checks):
         self.check_apart(waiting((0, 0)), [("start", 0, 1)])
         self.check_apart(waiting((0, 0)), [("start", 0, 1), ("end", 1)])
         self.check_apart(waiting((0, 0)), waiting((0, 0)) + [("lock", 0, 0)])
+        for condition in (0, 1):
+            for signals in ([], [("signal", 0, condition)]):
+                for locks in ([], [("lock", 0, 0)], [("lock", 0, 1)], [("lock", 0, 0), ("lock", 0, 1)]):
+                    waits = waiting((condition, 0)) + signals + locks
+                    self.check_apart(waits, [("start", 0, 1), ("end", 1)] + locks)
+                    self.check_apart(waits, waiting((condition, 1)) + signals + locks)
+                    self.check_apart(waits, waiting((1 - condition, 1)) + signals + locks)
+        one, other = waiting((1, 0), (1, 0), (0, 1)), waiting((1, 0), (0, 0), (0, 1))
+        for signals in ([], [("signal", 0, 0)], [("signal", 0, 1)], [("signal", 0, 0), ("signal", 0, 1)]):
+            self.check_apart(one + signals, other + signals)
         self.check_apart(waiting((0, 0), (1, 0)), waiting((1, 0), (0, 0)))
         self.check_apart(waiting((0, 0), (0, 1)), waiting((0, 1), (0, 0)))
 
