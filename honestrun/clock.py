@@ -26,3 +26,7 @@ class Clock:
     def change(self, event):
         """Take an event that can be taken."""
         self.last = event[2]
+
+    def recall(self, last):
+        """Remember this last time."""
+        self.last = last

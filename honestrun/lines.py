@@ -69,6 +69,16 @@ class Line:
             blocks[-1].append(place)
         return tuple([_block(places) for places in blocks])
 
+    def add_woken(self, pairs):
+        """Threads that surely have been woken, each with its lock, come to the end of a line of nobody else."""
+        self.places += [(thread, lock, True) for thread, lock in pairs]
+
+    def add_block(self, members, count):
+        """A block comes to the end of the line."""
+        # In which order its members came makes no difference any more, but the places that count are the last ones.
+        idle = len(members) - count
+        self.places += [(thread, lock, at >= idle) for at, (thread, lock) in enumerate(members)]
+
     def _front(self):
         """How many places at the beginning of the line count before the first one that does not."""
         for at, place in enumerate(self.places):

@@ -47,6 +47,10 @@ class Maps:
         """The pairs of base and size, ascending."""
         return tuple(sorted(self.sizes.items()))
 
+    def recall(self, pairs):
+        """Remember these pairs of base and size, and nothing else."""
+        self.sizes = dict(pairs)
+
     def _is_mapped(self, base, size):
         """Whether one of the cells from the base on is mapped."""
         return any([start < base + size and base < start + self.sizes[start] for start in self.sizes])

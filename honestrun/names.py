@@ -58,6 +58,11 @@ class Names:
         """A dict whose keys are the files that some possible surviving names have (and perhaps None)."""
         return {stamp: True for _, later in self.pairs for stamp in later}
 
+    def recall(self, pairs, next_stamp):
+        """Remember these pairs and this next stamp, and nothing else."""
+        self.pairs = {pair: True for pair in pairs}
+        self.next_stamp = next_stamp
+
     def _is_call(self, event):
         """Whether there is such a call, or such a cut call, as far as names, stamps and pages go."""
         call = _call_of(event)

@@ -55,6 +55,11 @@ class Page:
         texts = list(self.may)
         self.now = texts[0] if len(texts) == 1 else None
 
+    def recall(self, now, may):
+        """Remember this text now, or None, and these texts that may survive, and nothing else."""
+        self.now = now
+        self.may = {text: True for text in may}
+
 
 class Pages:
     """The pages by stamp and number; one that is not there is as at the beginning."""
@@ -107,6 +112,12 @@ class Pages:
             elif stamp in later:
                 entries.append((stamp, number, None, may))
         return tuple(entries)
+
+    def recall(self, entries):
+        """Remember what these entries of a form say, and nothing else."""
+        self.pages = {}
+        for stamp, number, now, may in entries:
+            self._page(stamp, number).recall(now, may)
 
     def _page(self, stamp, number):
         """The page of a file, to be changed."""

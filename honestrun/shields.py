@@ -58,6 +58,15 @@ class Shield:
             self.names.next_stamp,
         )
 
+    def recall(self, form):
+        """Remember what a form says, and nothing else."""
+        running, next_thread, holders, woken, waits, clock, maps, names, pages, next_stamp = form
+        self.clock.recall(clock)
+        self.maps.recall(maps)
+        self.threads.recall(running, next_thread, holders, woken, waits)
+        self.names.recall(names, next_stamp)
+        self.pages.recall(pages)
+
 
 def taken(history):
     """None if a new shield takes all events, otherwise the number of the first that it does not take, and why."""

@@ -37,7 +37,10 @@ class Threads:
 
     def answer(self, event):
         """None if the event can be taken, otherwise what is answered to it; nothing changes."""
-        if not self._is_call(event):
+        if event[0] == "restart":
+            # What it cut is no event of the threads.
+            return None
+        if not self.caller_runs(event) or not self._is_call(event):
             return NO_CALL
         match event:
             case ("lock", _, lock):
@@ -83,6 +86,18 @@ class Threads:
     def waits(self):
         """The blocks of those that wait, for each condition."""
         return tuple([line.blocks() for line in self.lines])
+
+    def recall(self, running, next_thread, holders, woken, waits):
+        """Remember what these parts of a form say, and nothing else."""
+        self.running = {thread: True for thread in running}
+        self.next_thread = next_thread
+        self.holders = dict(holders)
+        self.lines = [Line() for _ in range(CONDITIONS)]
+        # At which condition one waits that surely has been woken makes no difference any more.
+        self.lines[0].add_woken(woken)
+        for condition, blocks in enumerate(waits):
+            for members, count in blocks:
+                self.lines[condition].add_block(members, count)
 
     def _is_call(self, event):
         """Whether there is such a call, apart from whether the calling thread runs."""

@@ -237,15 +237,21 @@ class Crowd:
 
     def take(self, event):
         """What a shield has to answer; the worlds are followed if it is None."""
-        if not is_call(self.worlds[0], event):
+        if not self._is_call(event):
             return ("no call",)
-        worlds = list(dict.fromkeys(later for world in self.worlds for later in after(world, event)))
+        worlds = list(dict.fromkeys(later for world in self.worlds for later in self._after(world, event)))
         if not worlds:
             return ("refused", self._rule(event))
         if len({(world.now, world.later) for world in worlds}) > 60:
             return ("too many",)
         self.worlds = worlds
         return None
+
+    def _is_call(self, event):
+        return is_call(self.worlds[0], event)
+
+    def _after(self, world, event):
+        return after(world, event)
 
     def _rule(self, event):
         if event[0] == "woken":

@@ -144,7 +144,8 @@ class Language(unittest.TestCase):
     def test_the_interface_is_defined_where_it_is_listed(self):
         listed = {
             "errors": ("HonestrunError", "TooManyPossibilities", "NotInBook", "NotSaved"),
-            "shields": ("Shield", "taken"), "differences": ("difference",),
+            "shields": ("Shield", "taken"), "differences": ("difference",), "refusals": ("why", "judge"),
+            "covers": ("covered", "learnt"), "saved": ("mark", "save", "open_saved"),
         }
         for stem, names in listed.items():
             tree = ast.parse((PACKAGE / f"{stem}.py").read_text())
